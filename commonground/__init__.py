@@ -1,0 +1,1 @@
+"""Commonground: workers of different kinds that solve one model by one ledger of derived facts."""

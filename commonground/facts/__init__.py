@@ -1,0 +1,1 @@
+"""Facts, the steps that derive them, and the judge."""

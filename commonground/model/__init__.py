@@ -1,0 +1,1 @@
+"""Models: unknowns, constraints and a goal."""

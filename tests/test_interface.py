@@ -1,0 +1,93 @@
+"""The interface: names, arguments, and the files and classes in which they are defined."""
+
+import ast
+import importlib
+import inspect
+import pathlib
+import unittest
+
+FUNCTIONS = {
+    "commonground.model.literal": (
+        "relation_holds(relation, left, right)", "literal_holds(literal, worth)", "negated(literal)",
+        "literal_implies(first, second)", "terms_sum(terms, point)", "negated_terms(terms)",
+        "rows_of(terms, relation, rhs)",
+    ),
+    "commonground.model.body": (
+        "unknowns_of(body)", "body_holds(body, point)", "is_label(text)", "body_fits(body, many)",
+    ),
+    "commonground.model.plain": ("solutions(model)", "best_plain(model)"),
+    "commonground.facts.fact": (
+        "fact_holds(fact, point)", "is_contradiction(fact)", "as_row(fact)", "as_literal(fact)", "negation(fact)",
+        "implies(first, second)", "unknowns_in(fact)",
+    ),
+}
+
+CLASSES = {
+    "commonground.model.model": {
+        "Model(unknowns)": (
+            "many()", "name(v)", "low(v)", "high(v)", "number(name)", "labels()", "has(label)", "body(label)",
+            "goal()", "put(label, body)", "withdraw(label)", "move(v, low, high)", "aim(goal)", "inside(point)",
+            "is_solution(point)", "broken(point)", "worth(point)", "is_better(first, second)", "goal_row(worth)",
+            "improving_row(worth)", "copy()", "told()",
+        ),
+    },
+}
+
+ERRORS = (
+    "GroundError", "BadModel", "BadText", "Taken", "NoSuch", "Refused", "NotASolution", "TooLarge", "Unfinished",
+    "Stopped",
+)
+
+
+def read(module):
+    return ast.parse(pathlib.Path(importlib.import_module(module).__file__).read_text(encoding="utf-8"))
+
+
+def defined(body, kind):
+    return {node.name for node in body if isinstance(node, kind)}
+
+
+def shape(function, leave_out=0):
+    """Return the parameters as they would be written without annotations."""
+    given = list(inspect.signature(function).parameters.values())[leave_out:]
+    return str(inspect.Signature([each.replace(annotation=inspect.Parameter.empty) for each in given]))
+
+
+def split(told):
+    return told[: told.index("(")], told[told.index("("):]
+
+
+class InterfaceTest(unittest.TestCase):
+    def test_functions(self):
+        for module, functions in FUNCTIONS.items():
+            here = defined(read(module).body, ast.FunctionDef)
+            for told in functions:
+                name, signature = split(told)
+                with self.subTest(module=module, name=name):
+                    self.assertIn(name, here)
+                    function = getattr(importlib.import_module(module), name)
+                    self.assertEqual(shape(function), signature)
+
+    def test_classes(self):
+        for module, classes in CLASSES.items():
+            nodes = {node.name: node for node in read(module).body if isinstance(node, ast.ClassDef)}
+            for made, methods in classes.items():
+                name, signature = split(made)
+                with self.subTest(module=module, name=name):
+                    self.assertIn(name, nodes)
+                    owner = getattr(importlib.import_module(module), name)
+                    self.assertEqual(shape(owner), signature)
+                    self.check_methods(owner, defined(nodes[name].body, ast.FunctionDef), methods)
+
+    def check_methods(self, owner, here, methods):
+        for told in methods:
+            name, signature = split(told)
+            self.assertIn(name, here)
+            self.assertEqual(shape(getattr(owner, name), 1), signature, name)
+
+    def test_errors(self):
+        self.assertLessEqual(set(ERRORS), defined(read("commonground.errors").body, ast.ClassDef))
+
+
+if __name__ == "__main__":
+    unittest.main()
