@@ -12,17 +12,9 @@ from commonground.facts.fact import (
     negation,
     unknowns_in,
 )
+from tests.makers import NEVER, clause, row
 
 HUGE = 10 ** 40
-NEVER = ("any", ())
-
-
-def row(rhs, *terms):
-    return ("row", terms, rhs)
-
-
-def clause(*literals):
-    return ("any", literals)
 
 
 class HoldsTest(unittest.TestCase):

@@ -20,6 +20,12 @@ FUNCTIONS = {
         "fact_holds(fact, point)", "is_contradiction(fact)", "as_row(fact)", "as_literal(fact)", "negation(fact)",
         "implies(first, second)", "unknowns_in(fact)",
     ),
+    "commonground.facts.rules": ("follows(model, entries, step)",),
+    "commonground.facts.choices": ("look_cost(model, body, fact)",),
+    "commonground.facts.judge": (
+        "refers_to(step)", "unders(steps)", "first_bad(model, steps)", "accepts(model, certificate)",
+    ),
+    "commonground.ledger.bounding": ("contradiction_in(ledger)", "bound_of(ledger)", "entry_for(ledger, worth)"),
 }
 
 CLASSES = {
@@ -30,6 +36,17 @@ CLASSES = {
             "is_solution(point)", "broken(point)", "worth(point)", "is_better(first, second)", "goal_row(worth)",
             "improving_row(worth)", "copy()", "told()",
         ),
+    },
+    "commonground.ledger.ledger": {
+        "Ledger(model)": (
+            "offer(step)", "put(label, body)", "withdraw(label)", "move(v, low, high)", "aim(goal)", "many()",
+            "step(i)", "fact(i)", "awake(i)", "under(i)", "is_open(i)", "find(fact)", "open_entries()",
+            "labels_behind(i)",
+        ),
+    },
+    "commonground.ledger.standing": {"Standing(ledger)": ("show(point)", "refresh()", "best()")},
+    "commonground.ledger.pen": {
+        "Pen(ledger, standing, room=None)": ("offer(step)", "suppose(fact)", "written()"),
     },
 }
 

@@ -10,12 +10,13 @@ PACKAGE = pathlib.Path(__file__).resolve().parent.parent / "commonground"
 FILES = sorted(PACKAGE.rglob("*.py"))
 LIBRARY = {"heapq", "math", "itertools", "collections", "__future__"}
 BUILTINS = set(
-    "len range enumerate zip min max sum abs sorted reversed int str bool bytes list tuple dict set frozenset isinstance"
-    " ord chr repr any all divmod pow getattr hasattr setattr iter next map super Exception ValueError TypeError KeyError"
-    " IndexError LookupError ZeroDivisionError ArithmeticError OverflowError RuntimeError NotImplementedError"
+    "len range enumerate zip min max sum abs sorted reversed int str bool bytes list tuple dict set frozenset"
+    " isinstance ord chr repr any all divmod pow getattr hasattr setattr iter next map super Exception ValueError"
+    " TypeError KeyError IndexError LookupError ZeroDivisionError ArithmeticError OverflowError RuntimeError"
+    " NotImplementedError"
     " AttributeError StopIteration NotImplemented property staticmethod classmethod print object float".split()
 )
-BARRED = {"register", "mro", "elements", "open", "input", "law", "eval", "exec", "globals", "locals", "vars", "dir", "id"}
+BARRED = set("register mro elements open input law eval exec globals locals vars dir id".split())
 
 
 def trees():

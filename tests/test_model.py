@@ -301,7 +301,8 @@ class CopyTest(unittest.TestCase):
         model = self.made()
         self.assertEqual(model.copy().told(), model.told())
         self.assertIsNot(model.copy(), model)
-        self.assertEqual(model.told(), ((("x", 0, 4), ("y", -7, 8)), (("b", BODY), ("a", OTHER)), ("min", ((1, 2),), 3)))
+        constraints = (("b", BODY), ("a", OTHER))
+        self.assertEqual(model.told(), ((("x", 0, 4), ("y", -7, 8)), constraints, ("min", ((1, 2),), 3)))
 
     def test_changes_do_not_reach_the_other(self):
         for changed, kept in ((0, 1), (1, 0)):

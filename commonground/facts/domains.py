@@ -1,0 +1,101 @@
+"""The values that remain to unknowns while facts remove some of them."""
+
+from commonground.facts.fact import as_literal, negation
+from commonground.model.literal import negated, terms_sum
+
+# No bound of an unknown lies beyond it, so it is enough to tell values up to here apart.
+REACH = 1000
+
+
+def between(low, high):
+    """Return the set of the values from low to high, a number whose bit a + REACH stands for a."""
+    low = max(low, -REACH)
+    high = min(high, REACH)
+    if low > high:
+        return 0
+    return ((1 << (high - low + 1)) - 1) << (low + REACH)
+
+
+def satisfying(literal):
+    """Return the set of the values at which the literal holds."""
+    _, relation, a = literal
+    if relation == "<=":
+        return between(-REACH, a)
+    if relation == ">=":
+        return between(a, REACH)
+    if relation == "=":
+        return between(a, a)
+    return between(-REACH, REACH) ^ between(a, a)
+
+
+class Domains:
+    """The remaining values of some unknowns of a model, with which it keeps no connection."""
+
+    def __init__(self, model, unknowns):
+        self.sets = {v: between(model.low(v), model.high(v)) for v in unknowns}
+
+    def left(self, v):
+        """Return the list of the remaining values, ascending; there is one."""
+        low = self.least(v)
+        bits = f"{self.sets[v] >> (low + REACH):b}"
+        return [low + k for k, bit in enumerate(bits[::-1]) if bit == "1"]
+
+    def least(self, v):
+        """Return the least remaining value; there is one."""
+        return (self.sets[v] & -self.sets[v]).bit_length() - 1 - REACH
+
+    def greatest(self, v):
+        """Return the greatest remaining value; there is one."""
+        return self.sets[v].bit_length() - 1 - REACH
+
+    def size(self, v):
+        """Return the number of the remaining values."""
+        return f"{self.sets[v]:b}".count("1")
+
+    def contains(self, v, a):
+        """Return True if the value a remains to the unknown v."""
+        return self.sets[v] & between(a, a) != 0
+
+    def admits(self, literal):
+        """Return True if some remaining value satisfies the literal."""
+        return self.sets[literal[0]] & satisfying(literal) != 0
+
+    def keep(self, literal):
+        """Remove the values that do not satisfy the literal."""
+        self.sets[literal[0]] = self.sets[literal[0]] & satisfying(literal)
+
+    def all_left(self):
+        """Return True if every unknown has a value left."""
+        return all(self.sets.values())
+
+    def deny(self, fact):
+        """Remove values as if the fact failed, and return False if that is a conflict at once."""
+        if fact[0] == "any":
+            literals = [negated(literal) for literal in fact[1]]
+        else:
+            literals = self.demands(negation(fact))
+        if literals is None:
+            return False
+        for literal in literals:
+            self.keep(literal)
+        return self.all_left()
+
+    def demands(self, fact):
+        """Return the list of the literals that the fact demands now, or None if it is a conflict."""
+        if fact[0] == "row":
+            return self.row_demands(fact)
+        live = [literal for literal in fact[1] if self.admits(literal)]
+        if not live:
+            return None
+        if len(live) == 1:
+            return live
+        return []
+
+    def row_demands(self, row):
+        """Return for each term the literal that it must satisfy beside the least sum of the others."""
+        _, terms, rhs = row
+        ends = {v: self.least(v) if c > 0 else self.greatest(v) for v, c in terms}
+        room = rhs - terms_sum(terms, ends)
+        if room < 0:
+            return None
+        return [as_literal(("row", ((v, c),), room + c * ends[v])) for v, c in terms]

@@ -1,0 +1,1 @@
+"""The ledger of derived facts, and what is kept beside it."""
