@@ -26,6 +26,23 @@ FUNCTIONS = {
         "refers_to(step)", "unders(steps)", "first_bad(model, steps)", "accepts(model, certificate)",
     ),
     "commonground.ledger.bounding": ("contradiction_in(ledger)", "bound_of(ledger)", "entry_for(ledger, worth)"),
+    "commonground.ledger.certificate": (
+        "trim(steps)", "cut(ledger, i)", "compose(helper_steps, label, steps)", "carry(steps, model, other)",
+        "carry_body(body, model, other)",
+    ),
+    "commonground.exact.ratio": (
+        "ratio(top, bottom)", "whole(n)", "plus(a, b)", "minus(a, b)", "product(a, b)", "is_less(a, b)",
+        "is_whole(a)", "floor_of(a)",
+    ),
+    "commonground.exact.simplex": (
+        "inequality(lows, highs, rows, q)", "combination(lows, highs, rows, weights)",
+        "optimum(lows, highs, rows, aim)", "rounding(lows, highs, rows, aim)",
+    ),
+    "commonground.workers.relaxation": ("rows_at_hand(ledger)", "relaxation(ledger)"),
+    "commonground.workers.boxes": (
+        "whole_box(model)", "in_box(box, point)", "rest_after(model, facts)",
+        "clause_against(model, box, unknowns)", "support_cost(body, box)", "has_support(body, box)",
+    ),
 }
 
 CLASSES = {
@@ -48,6 +65,13 @@ CLASSES = {
     "commonground.ledger.pen": {
         "Pen(ledger, standing, room=None)": ("offer(step)", "suppose(fact)", "written()"),
     },
+    "commonground.exact.tableau": {
+        "Tableau(lows, highs, rows, aim)": (
+            "free()", "aim_equation()", "column_equation(j)", "slack_equation(q)", "corner()", "pivot(q, k)",
+            "choose()", "settle()",
+        ),
+    },
+    "commonground.workers.linear": {"Linear()": ("turn(pen)",)},
 }
 
 ERRORS = (

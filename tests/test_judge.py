@@ -1,14 +1,12 @@
 """Promises [40] to [42]: what steps are under, and the judge."""
 
-import itertools
 import random
 import unittest
 
 from commonground.facts.judge import accepts, first_bad, refers_to, unders
-from commonground.facts.rules import follows
 from commonground.model.model import Model
 from tests import naive
-from tests.makers import NEVER, made, random_body, random_fact, row
+from tests.makers import NEVER, made, plain_solutions, random_body, random_steps, row
 
 F = row(3, (0, 1))
 
@@ -271,67 +269,16 @@ class AcceptsNoneTest(unittest.TestCase):
 class MeaningTest(unittest.TestCase):
     """[41]: at random models, what follows holds at all solutions at which the suppositions hold."""
 
-    def random_step(self, rng, model, steps):
-        fact = random_fact(rng, [0, 1, 2])
-        some = [rng.randrange(len(steps)) for _ in range(rng.randint(0, 3))] if steps else []
-        label = rng.choice(model.labels())
-        rule = rng.choice(("suppose", "sum", "divide", "look", "then", "unit", "cases", "absurd", "weaken", "given"))
-        if rule == "suppose":
-            return (fact, rule)
-        if rule == "given":
-            body = model.body(label)
-            return (body if body[0] == "any" else ("row", body[1], body[3]) if body[0] == "row" else fact, rule, label)
-        if rule == "look":
-            return (fact, rule, label, tuple(some))
-        if rule == "unit":
-            return (fact, rule, tuple(some))
-        if rule == "sum":
-            return self.random_sum(rng, steps, some)
-        if not some:
-            return (fact, "suppose")
-        if rule == "divide":
-            return (fact, rule, some[0], rng.randint(1, 3))
-        if rule == "then":
-            return (fact, rule, label, some[0])
-        if rule == "cases":
-            return self.random_cases(rng, steps, fact)
-        return (fact, rule, some[0])
-
-    def random_sum(self, rng, steps, some):
-        pairs = tuple((i, rng.randint(1, 2)) for i in some if steps[i][0][0] == "row")
-        totals = {}
-        for i, m in pairs:
-            for v, c in steps[i][0][1]:
-                totals[v] = totals.get(v, 0) + m * c
-        terms = tuple((v, c) for v, c in sorted(totals.items()) if c != 0)
-        rhs = sum(m * steps[i][0][2] for i, m in pairs) + rng.choice((-1, 0, 0, 1))
-        return (("row", terms, rhs), "sum", pairs)
-
-    def random_cases(self, rng, steps, fact):
-        above = unders(steps)
-        pairs = [(s, t) for s in range(len(steps)) for t in range(len(steps))
-                 if steps[s][1] == "suppose" and steps[t][1] == "suppose"]
-        s, t = rng.choice(pairs) if pairs else (0, 0)
-        i = rng.choice([k for k in range(len(steps)) if s in above[k]] or [0])
-        j = rng.choice([k for k in range(len(steps)) if t in above[k]] or [0])
-        return (rng.choice((fact, steps[i][0], steps[j][0])), "cases", i, j, s, t)
-
     def test_what_follows_holds(self):
         rng = random.Random(41)
         rules = {}
         for _ in range(150):
             model = made([(-1, 2), (0, 2), (0, 1)], a=random_body(rng, 3), b=random_body(rng, 3))
-            points = list(itertools.product(range(-1, 3), range(0, 3), range(0, 2)))
-            points = [p for p in points if all(naive.body_is_met(model.body(label), p) for label in "ab")]
-            # Opposite suppositions, so that there is something for the rule cases.
-            steps = [(row(0, (0, 1)), "suppose"), (row(-1, (0, -1)), "suppose")]
-            for _ in range(80):
-                step = self.random_step(rng, model, steps)
-                if follows(model, steps, step):
-                    steps.append(step)
-                    rules[step[1]] = rules.get(step[1], 0) + 1
-            self.check_all(model, points, steps)
-        self.assertGreaterEqual(len(rules), 9, rules)
+            steps = random_steps(rng, model, 80)
+            for step in steps:
+                rules[step[1]] = rules.get(step[1], 0) + 1
+            self.check_all(model, plain_solutions(model), steps)
+        self.assertEqual(len(rules), 12, rules)
 
     def check_all(self, model, points, steps):
         self.assertIsNone(first_bad(model, tuple(steps)))

@@ -1,4 +1,4 @@
-"""Rules of LANGUAGE.md that a look at the files can decide: L1, L2, L8, L10, L14, L25 and some words of L17."""
+"""Rules of LANGUAGE.md that a look at the files can decide: L1, L2, L8, L10, L14 to L16, L25 and others in part."""
 
 import ast
 import builtins
@@ -17,6 +17,12 @@ BUILTINS = set(
     " AttributeError StopIteration NotImplemented property staticmethod classmethod print object float".split()
 )
 BARRED = set("register mro elements open input law eval exec globals locals vars dir id".split())
+METHODS = set(
+    "append clear copy count endswith extend find get index insert isalnum isalpha isdigit islower isspace isupper"
+    " items join keys ljust lower lstrip partition pop remove replace reverse rfind rjust rpartition rsplit rstrip"
+    " setdefault split splitlines startswith strip update upper values zfill bit_length add discard sort __init__".split()
+)
+FUNCTION_KINDS = (ast.FunctionDef, ast.Lambda)
 
 
 def trees():
@@ -69,6 +75,74 @@ class LanguageTest(unittest.TestCase):
             for node in ast.walk(tree):
                 for name in (getattr(node, "id", None), getattr(node, "arg", None), getattr(node, "name", None)):
                     self.assertNotIn(name, BARRED, (path, getattr(node, "lineno", 0)))
+
+    def test_methods(self):
+        """L25: only these methods of builtin values, and those that the package defines."""
+        own = set()
+        for _, tree in trees():
+            for node in ast.walk(tree):
+                if isinstance(node, ast.ClassDef):
+                    own.update(each.name for each in node.body if isinstance(each, ast.FunctionDef))
+        for path, tree in trees():
+            for node in ast.walk(tree):
+                if isinstance(node, ast.Call) and isinstance(node.func, ast.Attribute):
+                    self.assertIn(node.func.attr, own | METHODS, (path, node.lineno))
+
+    def test_bound_names(self):
+        """L15: a name is bound once at module level, and no local name is that of a class or an import of its file."""
+        for path, tree in trees():
+            bound = []
+            for node in tree.body:
+                if isinstance(node, (ast.FunctionDef, ast.ClassDef)):
+                    bound.append(node.name)
+                elif isinstance(node, ast.ImportFrom):
+                    bound += [each.asname or each.name for each in node.names]
+                elif isinstance(node, ast.Assign):
+                    bound += [each.id for each in node.targets]
+            self.assertEqual(len(bound), len(set(bound)), path)
+            barred = set(bound) - {each.name for each in tree.body if isinstance(each, ast.FunctionDef)}
+            for function in ast.walk(tree):
+                if isinstance(function, FUNCTION_KINDS):
+                    for node in ast.walk(function):
+                        if isinstance(node, ast.Name) and isinstance(node.ctx, ast.Store):
+                            self.assertNotIn(node.id, barred, (path, node.lineno))
+                        if isinstance(node, ast.arg):
+                            self.assertNotIn(node.arg, barred, (path, node.lineno))
+
+    def test_members(self):
+        """L18: no name is a method and an attribute in one class, and no method is defined twice."""
+        for path, tree in trees():
+            for owner in [node for node in ast.walk(tree) if isinstance(node, ast.ClassDef)]:
+                methods = [each.name for each in owner.body if isinstance(each, ast.FunctionDef)]
+                self.assertEqual(len(methods), len(set(methods)), (path, owner.name))
+                stored = {node.attr for node in ast.walk(owner)
+                          if isinstance(node, ast.Attribute) and isinstance(node.ctx, ast.Store)}
+                self.assertFalse(stored & set(methods), (path, owner.name))
+
+    def test_no_two_files_import_from_each_other(self):
+        """L16, and that each import names the very file that defines the name."""
+        files = {".".join(path.relative_to(PACKAGE.parent).with_suffix("").parts): tree for path, tree in trees()}
+        wanted = {}
+        for module, tree in files.items():
+            imports = [node for node in tree.body if isinstance(node, ast.ImportFrom) and node.module in files]
+            wanted[module] = {node.module for node in imports}
+            for node in imports:
+                there = files[node.module].body
+                defined = {each.name for each in there if isinstance(each, (ast.FunctionDef, ast.ClassDef))}
+                defined |= {each.targets[0].id for each in there if isinstance(each, ast.Assign)}
+                self.assertLessEqual({each.name for each in node.names}, defined, (module, node.lineno))
+        while wanted:
+            free = [module for module, others in wanted.items() if not others & set(wanted)]
+            self.assertTrue(free, wanted)
+            wanted = {module: others for module, others in wanted.items() if module not in free}
+
+    def test_statements(self):
+        """L6 and L20: statements that are not allowed, and "is" with None, True and False only."""
+        for path, tree in trees():
+            for node in ast.walk(tree):
+                self.assertNotIsInstance(node, (ast.Global, ast.AsyncFunctionDef, ast.AsyncFor, ast.Await), path)
+                if isinstance(node, ast.Compare) and isinstance(node.ops[0], (ast.Is, ast.IsNot)):
+                    self.assertIsInstance(node.comparators[0], ast.Constant, (path, node.lineno))
 
     def test_no_floats(self):
         for path, tree in trees():

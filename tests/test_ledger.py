@@ -1,6 +1,5 @@
 """Promises [43] to [47]: the ledger."""
 
-import itertools
 import random
 import unittest
 
@@ -10,7 +9,7 @@ from commonground.facts.rules import follows
 from commonground.ledger.ledger import Ledger
 from commonground.model.model import Model
 from tests import naive
-from tests.makers import NEVER, clause, random_body, random_fact, row
+from tests.makers import NEVER, clause, plain_solutions, random_body, random_edit, random_fact, row
 
 
 def plain_model():
@@ -395,7 +394,7 @@ class RandomEditsTest(LedgerTest):
             ledger = self.random_ledger(rng)
             for _ in range(25):
                 before = self.awake(ledger)
-                self.random_edit(rng, ledger)
+                random_edit(rng, ledger, "abcd")
                 after = self.awake(ledger)
                 self.assertEqual(after, expected_awake(ledger.model, list(ledger)))
                 self.check_meaning(ledger)
@@ -440,26 +439,8 @@ class RandomEditsTest(LedgerTest):
         except Refused:
             pass
 
-    def random_edit(self, rng, ledger):
-        kind = rng.choice(("put", "withdraw", "move", "move", "aim"))
-        if kind == "put":
-            free = [label for label in "abcd" if not ledger.model.has(label)]
-            if free:
-                ledger.put(rng.choice(free), random_body(rng, 3))
-        elif kind == "withdraw":
-            if ledger.model.labels():
-                ledger.withdraw(rng.choice(ledger.model.labels()))
-        elif kind == "move":
-            low = rng.randint(-2, 1)
-            ledger.move(rng.randrange(3), low, low + rng.randint(0, 3))
-        else:
-            ledger.aim((rng.choice(("max", "min")), ((0, 1),), rng.randint(-3, 3)))
-
     def check_meaning(self, ledger):
-        model = ledger.model
-        ranges = [range(model.low(v), model.high(v) + 1) for v in range(3)]
-        points = [p for p in itertools.product(*ranges)
-                  if all(naive.body_is_met(model.body(label), p) for label in model.labels())]
+        points = plain_solutions(ledger.model)
         for i in range(ledger.many()):
             if ledger.awake(i):
                 for point in points:

@@ -10,15 +10,22 @@ def refers_to(step):
     return numbers_in(step)
 
 
+def above_of(earlier, i):
+    """Return what the step i is under; a number that is not that of an earlier step adds nothing."""
+    if 0 <= i < len(earlier):
+        return earlier[i]
+    return ()
+
+
 def under_of(earlier, number, step):
     """Return what the step is under if it has this number, earlier being what the steps before it are under."""
     if step[1] == "suppose":
         return (number,)
     if step[1] == "cases":
         _, _, i, j, s, t = step
-        above = [n for n in earlier[i] if n != s] + [n for n in earlier[j] if n != t]
+        above = [n for n in above_of(earlier, i) if n != s] + [n for n in above_of(earlier, j) if n != t]
     else:
-        above = [n for k in numbers_in(step) for n in earlier[k]]
+        above = [n for k in numbers_in(step) for n in above_of(earlier, k)]
     return tuple(sorted(set(above)))
 
 

@@ -2,7 +2,7 @@
 
 from commonground.errors import NoSuch, Refused, TooLarge
 from commonground.facts.judge import refers_to, under_of
-from commonground.facts.parts import label_in
+from commonground.facts.parts import label_in, numbers_behind
 from commonground.facts.rules import follows
 from commonground.model.body import unknowns_of
 
@@ -161,13 +161,5 @@ class Ledger:
     def labels_behind(self, i):
         """Return the list of the labels that the entry i and all that it rests on use, ascending."""
         self.check(i)
-        behind = {i: True}
-        waiting = [i]
-        while waiting:
-            number = waiting.pop()
-            for k in refers_to(self.steps[number]):
-                if k not in behind:
-                    behind[k] = True
-                    waiting.append(k)
-        labels = [label_in(self.steps[k]) for k in behind]
+        labels = [label_in(self.steps[k]) for k in numbers_behind(self.steps, i)]
         return sorted({label for label in labels if label is not None})

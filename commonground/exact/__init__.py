@@ -1,0 +1,1 @@
+"""Exact linear programs: ratios, tableaus, optima and roundings."""

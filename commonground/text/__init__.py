@@ -1,0 +1,1 @@
+"""Written models, facts, steps and certificates."""

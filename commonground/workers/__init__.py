@@ -1,0 +1,1 @@
+"""The workers, who derive facts and look for solutions."""
