@@ -185,6 +185,19 @@ def random_edit(rng, ledger, labels):
         ledger.aim((rng.choice(("max", "min")), ((0, 1),), rng.randint(-3, 3)))
 
 
+def random_linear_model(rng, rows=3, bounds=((-1, 4), (0, 5), (0, 3))):
+    """Return a model of rows, which often have a common solution, and one other body."""
+    model = made(bounds)
+    near = [rng.randint(low, high) for low, high in bounds]
+    for k in range(rows):
+        terms = tuple((v, rng.choice((-5, -4, -3, -2, 2, 3, 4, 5))) for v in range(len(bounds)) if rng.random() < 0.8)
+        model.put(f"r{k}", ("row", terms, "<=", naive.total(terms, near) + rng.randint(-1, 4)))
+    model.put("b", random_body(rng, len(bounds)))
+    terms = tuple((v, rng.choice((-3, -2, -1, 1, 2, 3))) for v in range(len(bounds)))
+    model.aim((rng.choice(("max", "min")), terms, rng.randint(-5, 5)))
+    return model
+
+
 def points_in(bounds):
     return list(itertools.product(*[range(low, high + 1) for low, high in bounds]))
 

@@ -38,6 +38,13 @@ FUNCTIONS = {
         "inequality(lows, highs, rows, q)", "combination(lows, highs, rows, weights)",
         "optimum(lows, highs, rows, aim)", "rounding(lows, highs, rows, aim)",
     ),
+    "commonground.workers.settled": ("is_settled(ledger, standing)",),
+    "commonground.text.words": ("integer_text(n)", "read_integer(word)"),
+    "commonground.text.models": ("body_text(model, body)", "model_text(model)", "read_model(text)"),
+    "commonground.text.steps": (
+        "fact_text(model, fact)", "step_text(model, step)", "read_fact(model, text)", "read_step(model, text)",
+    ),
+    "commonground.text.certificates": ("certificate_text(model, certificate)", "read_certificate(model, text)"),
     "commonground.workers.relaxation": ("rows_at_hand(ledger)", "relaxation(ledger)"),
     "commonground.workers.boxes": (
         "whole_box(model)", "in_box(box, point)", "rest_after(model, facts)",
@@ -72,6 +79,8 @@ CLASSES = {
         ),
     },
     "commonground.workers.linear": {"Linear()": ("turn(pen)",)},
+    "commonground.workers.cuts": {"Cuts()": ("turn(pen)",)},
+    "commonground.workers.branch": {"Branch()": ("turn(pen)",)},
 }
 
 ERRORS = (

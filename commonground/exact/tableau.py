@@ -25,7 +25,7 @@ class Tableau:
         self.lows = lows
         self.highs = highs
         self.rows = rows
-        self.aim = aim
+        self.aim_terms = aim
         self.places = []
         self.scale = 1
         self.constants = []
@@ -63,7 +63,7 @@ class Tableau:
 
     def aim_equation(self):
         """Return the equation of the sum of the aim."""
-        constant, coefs = self.summed(self.aim)
+        constant, coefs = self.summed(self.aim_terms)
         return lowest(self.scale, constant, coefs)
 
     def column_equation(self, j):
@@ -131,7 +131,7 @@ class Tableau:
 
     def grade(self, k):
         """Return the grade of place k as a list, times the scale."""
-        return [sum(c * self.coefs[j][k] for j, c in self.aim)] + [coefs[k] for coefs in self.coefs]
+        return [sum(c * self.coefs[j][k] for j, c in self.aim_terms)] + [coefs[k] for coefs in self.coefs]
 
     def settle(self):
         """Perform the chosen pivots until there are none left, and return "best" or "none"."""

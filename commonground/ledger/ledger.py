@@ -31,6 +31,8 @@ class Ledger:
         # For each entry: whether its step follows as soon as all entries to which it refers are awake.
         self.ready = []
         self.above = []
+        # The awake open entries, ascending; workers ask for them far more often than there are edits.
+        self.opened = []
         self.stating = {}
         self.supposing = {}
 
@@ -57,6 +59,8 @@ class Ledger:
         self.steps.append(step)
         self.present.append(step)
         self.ready.append(True)
+        if under == ():
+            self.opened.append(number)
 
     def put(self, label, body):
         """Add a constraint to the model."""
@@ -97,6 +101,7 @@ class Ledger:
         for i, step in enumerate(self.steps):
             awake = self.ready[i] and all(self.present[k] is not None for k in refers_to(step))
             self.present[i] = step if awake else None
+        self.opened = [i for i, step in enumerate(self.present) if step is not None and self.above[i] == ()]
 
     def check(self, i):
         """Raise NoSuch unless there is an entry i."""
@@ -156,7 +161,7 @@ class Ledger:
 
     def open_entries(self):
         """Return the list of the awake open entries, ascending."""
-        return [i for i, step in enumerate(self.present) if step is not None and self.above[i] == ()]
+        return list(self.opened)
 
     def labels_behind(self, i):
         """Return the list of the labels that the entry i and all that it rests on use, ascending."""
