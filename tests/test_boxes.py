@@ -136,6 +136,28 @@ class SupportTest(unittest.TestCase):
         self.check(("row", (), "<=", 0), box, 1, True)
         self.check(("row", (), "=", 1), box, 1, False)
 
+    def test_equations_with_gaps(self):
+        for terms, reached in (
+            (((0, 1), (1, 3)), (0, 1, 3, 4)), (((0, 1), (1, -3)), (-3, -2, 0, 1)), (((0, 2), (1, 6)), (0, 2, 6, 8)),
+            (((0, 1), (1, 3), (2, 9)), (0, 1, 3, 4, 9, 10, 12, 13)), (((0, 3), (1, 3), (2, 4)), (0, 3, 4, 6, 7, 10)),
+            (((0, 1), (1, 2), (2, 5)), (0, 1, 2, 3, 5, 6, 7, 8)),
+        ):
+            for rhs in range(-5, 15):
+                self.check(("row", terms, "=", rhs), ((0, 0, 0), (1, 1, 1)), 2 ** len(terms), rhs in reached)
+
+    def test_equations_in_great_boxes(self):
+        box = ((-1000,) * 60, (1000,) * 60)
+        for terms, rhs, supported in (
+            (tuple((v, v + 1) for v in range(60)), 12345, True),
+            (tuple((v, 2 * v - 61) for v in range(60)), -12345, True),
+            (tuple((v, 2 * v + 2) for v in range(60)), 12345, False),
+            (tuple((v, 6 * (-1) ** v) for v in range(60)), 360000, True),
+            (tuple((v, 6 * (-1) ** v) for v in range(60)), 360006, False),
+            (((0, 1000000), (1, 999999)), 500000, False),
+            (((0, 1000000), (1, 999999)), 1999999, True),
+        ):
+            self.check(("row", terms, "=", rhs), box, 2001 ** len(terms), supported)
+
     def test_any(self):
         box = ((0, 1, 5), (2, 3, 5))
         for literal, supported in (

@@ -32,6 +32,20 @@ def points_inside(model):
     return len(points_in([(low, high) for _, low, high in unknowns]))
 
 
+class CountingPen(Pen):
+    """A pen that counts what is offered to it."""
+
+    offers = 0
+
+    def offer(self, step):
+        self.offers += 1
+        return super().offer(step)
+
+    def suppose(self, fact):
+        self.offers += 1
+        return super().suppose(fact)
+
+
 class BranchTest(unittest.TestCase):
     def take(self, worker, ledger, standing, room=None):
         """Take a turn and return what it returns, having checked that it did something unless it was settled."""
@@ -149,6 +163,17 @@ class FixedTest(BranchTest):
                 ledger, _ = self.check([(0, 3), (0, 3)], goal, bodies, None)
                 self.check_entries(ledger)
 
+    def test_a_wide_box_that_one_fact_closes(self):
+        terms = tuple((v, 1) for v in range(10))
+        for body in (
+            ("row", terms, ">=", 91), ("row", terms, "<=", -1), ("row", terms, "=", 91),
+            ("any", ((0, "=", 10), (3, "<=", -1), (7, ">=", 10), (9, "=", -1))), ("any", ((4, "=", 12),)),
+        ):
+            ledger, standing = held(made([(0, 9)] * 10, b=body))
+            self.assertEqual(self.settle(ledger, standing), 1)
+            self.assertLessEqual(ledger.many(), 2)
+            self.assertIs(accepts(ledger.model, ("none", tuple(ledger))), True)
+
     def test_one_solution(self):
         bodies = {"d": ("different", (0, 1, 2)), "r": ("row", ((0, 1), (1, 2), (2, 4)), "=", 14),
                   "t": ("table", (0, 2), ((2, 3), (3, 2)))}
@@ -166,6 +191,17 @@ class FixedTest(BranchTest):
         for sense, c, worth in (("max", 1, 6), ("min", 1, 1), ("max", -1, -1), ("min", -1, -6), ("max", 5, 30)):
             self.check([(0, 7), (0, 7)], (sense, ((0, c),), 0), {"d": ("times", 0, 1, 1), "e": ("different", (0, 1)),
                        "r": ("row", ((0, 1), (1, 9)), "<=", 6), "s": ("row", ((0, 1),), ">=", 1)}, worth)
+
+    def test_the_better_half_comes_first(self):
+        for goal, best in (
+            (("max", ((0, 2), (1, -1)), 0), (7, 0)), (("min", ((0, 2), (1, -1)), 0), (0, 7)),
+            (("max", ((1, 3),), 0), (0, 7)), (("min", ((0, -1),), 0), (7, 0)), (("min", (), 0), (0, 0)),
+        ):
+            ledger, standing = held(made([(0, 7), (0, 7)]), goal)
+            worker = Branch()
+            while standing.best() is None:
+                self.take(worker, ledger, standing)
+            self.assertEqual(standing.best()[1], best)
 
     def test_great_bounds(self):
         bodies = {"r": ("row", ((0, 3), (1, 5)), "=", 41), "w": ("when", (0, ">=", 3), ((1, 1),), "<=", 1)}
@@ -329,7 +365,20 @@ class AnewTest(BranchTest):
         self.settle(ledger, standing)
         self.check_answer(ledger, standing)
 
-    def test_the_worker_remembers_where_it_is(self):
+    def test_what_was_offered_is_not_offered_again(self):
+        ledger, standing = held(made([(0, 3)] * 6, r=("row", tuple((v, 2) for v in range(6)), "=", 17)))
+        worker = Branch()
+        offers = turns = 0
+        going = True
+        while going:
+            pen = CountingPen(ledger, standing)
+            going = worker.turn(pen)
+            offers += pen.offers
+            turns += 1
+        self.assertGreater(turns, 20)
+        self.assertLess(offers, 2 * ledger.many())
+
+    def test_the_worker_finds_the_same_as_new_ones(self):
         ledger, standing = held(made([(0, 3)] * 3, **self.BODIES), ("max", ((0, 1),), 0))
         worker = Branch()
         turns = self.settle(ledger, standing, worker)

@@ -196,6 +196,13 @@ class ComposeTest(unittest.TestCase):
         self.assertEqual(compose(helpers, "c", ()), helpers)
         self.assertRaises(Refused, compose, helpers[:2] + ((F, "cases", 1, 0, 0, 1),), "c", ())
 
+    def test_numbers_of_no_helper_step_open_nothing_and_close_nothing(self):
+        for i in (-1, 2, 9):
+            start = ((F, "suppose"), (F, "bound", 0))
+            self.assertRaises(Refused, compose, start + ((F, "unit", (0, i)),), "c", ())
+            for step in ((F, "unit", (i, 1)), (F, "weaken", i), (F, "cases", i, 1, 0, 0)):
+                self.assertEqual(compose(start + (step,), "c", ()), start + (step,))
+
     def test_numbers_are_raised(self):
         steps = (
             (G, "bound", 1),

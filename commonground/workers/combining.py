@@ -42,8 +42,7 @@ def write_combination(pen, program, weights):
 def write_divided(pen, program, scale, weights):
     """Return the number of an entry that states the combination divided by the scale, its rhs rounded down."""
     i = write_combination(pen, program, weights)
-    if scale == 1:
-        return i
     _, terms, rhs = pen.ledger.fact(i)
+    # With the scale 1 this is the fact of the entry i, and nothing is written.
     row = ("row", tuple((v, c // scale) for v, c in terms), rhs // scale)
     return pen.offer((row, "divide", i, scale))
