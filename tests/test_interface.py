@@ -50,6 +50,13 @@ FUNCTIONS = {
         "whole_box(model)", "in_box(box, point)", "rest_after(model, facts)",
         "clause_against(model, box, unknowns)", "support_cost(body, box)", "has_support(body, box)",
     ),
+    "commonground.workers.narrowing": (
+        "box_of(ledger)", "is_possible(box, literal)", "is_sure(box, literal)", "keeps(box, literal)",
+        "least_sum(box, terms)", "row_consistent(box, row)", "clause_consistent(box, clause)",
+        "body_consistent(box, body)", "narrow_box(model, facts)",
+    ),
+    "commonground.workers.cause": ("cause_of(model, label, worths)",),
+    "commonground.diagram.build": ("diagram_of(model)", "diagram_from(pairs, points)"),
 }
 
 CLASSES = {
@@ -81,6 +88,10 @@ CLASSES = {
     "commonground.workers.linear": {"Linear()": ("turn(pen)",)},
     "commonground.workers.cuts": {"Cuts()": ("turn(pen)",)},
     "commonground.workers.branch": {"Branch()": ("turn(pen)",)},
+    "commonground.workers.narrow": {"Narrow()": ("turn(pen)",)},
+    "commonground.workers.remaining": {"Remaining(model)": ("left(v)", "fix(v, a)", "apply(fact)", "single()")},
+    "commonground.workers.learn": {"Learn()": ("turn(pen)",)},
+    "commonground.diagram.track": {"Track(model, body)": ("start()", "after(state, v, a)")},
 }
 
 ERRORS = (

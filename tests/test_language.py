@@ -144,6 +144,84 @@ class LanguageTest(unittest.TestCase):
                 if isinstance(node, ast.Compare) and isinstance(node.ops[0], (ast.Is, ast.IsNot)):
                     self.assertIsInstance(node.comparators[0], ast.Constant, (path, node.lineno))
 
+    def test_stars(self):
+        """L7: behind the star of a call stand names, attributes off a name, literals, and lists and tuples of these."""
+        for path, tree in trees():
+            for node in ast.walk(tree):
+                if isinstance(node, ast.Call):
+                    for each in [a.value for a in node.args if isinstance(a, ast.Starred)]:
+                        self.assertTrue(isinstance(each, (ast.Name, ast.List, ast.Tuple)) or
+                                        isinstance(each, ast.Attribute) and isinstance(each.value, ast.Name),
+                                        (path, node.lineno))
+
+    def test_sets(self):
+        """L24: a set stands behind in, beside == or !=, or directly in sorted or len."""
+        for path, tree in trees():
+            allowed = set()
+            for node in ast.walk(tree):
+                if isinstance(node, ast.Compare) and isinstance(node.ops[0], (ast.In, ast.NotIn, ast.Eq, ast.NotEq)):
+                    allowed.update(map(id, [node.left] + node.comparators))
+                if isinstance(node, ast.Call) and isinstance(node.func, ast.Name) and node.func.id in ("sorted", "len"):
+                    if not node.keywords:
+                        allowed.update(map(id, node.args))
+                if isinstance(node, ast.Assign) and len(node.targets) == 1 and isinstance(node.targets[0], ast.Name):
+                    allowed.add(id(node.value))
+            for node in ast.walk(tree):
+                made = isinstance(node, ast.Call) and isinstance(node.func, ast.Name) and node.func.id == "set"
+                if made or isinstance(node, (ast.Set, ast.SetComp)):
+                    self.assertIn(id(node), allowed, (path, node.lineno))
+
+    def test_iterated_at_once(self):
+        """L23: zip, enumerate and reversed stand where they are iterated, as the first argument of what iterates them."""
+        within = set("list tuple dict sorted sum any all enumerate zip min max".split())
+        for path, tree in trees():
+            allowed = set()
+            for node in ast.walk(tree):
+                if isinstance(node, (ast.For, ast.comprehension)):
+                    allowed.add(id(node.iter))
+                if isinstance(node, ast.Call) and isinstance(node.func, ast.Name) and node.func.id in within and node.args:
+                    allowed.add(id(node.args[0]))
+            for node in ast.walk(tree):
+                if isinstance(node, ast.Call) and isinstance(node.func, ast.Name):
+                    if node.func.id in ("zip", "enumerate", "reversed"):
+                        self.assertIn(id(node), allowed, (path, node.lineno))
+
+    def test_generator_expressions(self):
+        """L7: a generator expression stands directly in a call of what iterates it, beside names and literals."""
+        within = set("list tuple dict sorted sum min max any all".split())
+        for path, tree in trees():
+            allowed = set()
+            for node in ast.walk(tree):
+                if isinstance(node, ast.Call) and isinstance(node.func, ast.Name) and node.func.id in within:
+                    allowed.update(map(id, node.args))
+            for node in ast.walk(tree):
+                if isinstance(node, ast.GeneratorExp):
+                    self.assertIn(id(node), allowed, (path, node.lineno))
+
+    def test_words(self):
+        """L12, L17, L27: words and signs that do not occur in strings and names."""
+        barred = set("typing enum Enum Generic Protocol ABC namedtuple dataclass".split())
+        for path, tree in trees():
+            for node in ast.walk(tree):
+                if isinstance(node, ast.Attribute) and isinstance(node.ctx, ast.Store):
+                    self.assertNotIn(node.attr, METHODS - {"count", "index", "find", "get", "join", "copy", "add"}, path)
+                if isinstance(node, ast.Constant) and isinstance(node.value, str):
+                    self.assertFalse(barred & set(re.findall("[a-zA-Z]+", node.value)), (path, node.lineno))
+                for name in (getattr(node, "id", None), getattr(node, "name", None), getattr(node, "attr", None)):
+                    if isinstance(name, str):
+                        self.assertRegex(name, "^(__init__|__iter__|_?[A-Za-z][A-Za-z0-9_]*|_)$")
+
+    def test_methods_and_attributes_of_all_classes(self):
+        """L18, more narrowly than it asks: no name is a method in one class and an attribute in another."""
+        methods, stored = {}, {}
+        for path, tree in trees():
+            for owner in [node for node in ast.walk(tree) if isinstance(node, ast.ClassDef)]:
+                methods.update({each.name: owner.name for each in owner.body if isinstance(each, ast.FunctionDef)})
+                for node in ast.walk(owner):
+                    if isinstance(node, ast.Attribute) and isinstance(node.ctx, ast.Store):
+                        stored[node.attr] = owner.name
+        self.assertEqual({name: (methods[name], stored[name]) for name in set(methods) & set(stored)}, {})
+
     def test_no_floats(self):
         for path, tree in trees():
             for node in ast.walk(tree):

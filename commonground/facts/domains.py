@@ -16,6 +16,13 @@ def between(low, high):
     return ((1 << (high - low + 1)) - 1) << (low + REACH)
 
 
+def only(a):
+    """Return the set of the one value a, or the empty set if no bound of an unknown reaches it."""
+    if -REACH <= a <= REACH:
+        return 1 << (a + REACH)
+    return 0
+
+
 def satisfying(literal):
     """Return the set of the values at which the literal holds."""
     _, relation, a = literal
@@ -24,8 +31,18 @@ def satisfying(literal):
     if relation == ">=":
         return between(a, REACH)
     if relation == "=":
-        return between(a, a)
-    return between(-REACH, REACH) ^ between(a, a)
+        return only(a)
+    return ((1 << (2 * REACH + 1)) - 1) ^ only(a)
+
+
+def least_of(values):
+    """Return the least member of a set of values that is not empty."""
+    return (values & -values).bit_length() - 1 - REACH
+
+
+def greatest_of(values):
+    """Return the greatest member of a set of values that is not empty."""
+    return values.bit_length() - 1 - REACH
 
 
 class Domains:
@@ -42,19 +59,23 @@ class Domains:
 
     def least(self, v):
         """Return the least remaining value; there is one."""
-        return (self.sets[v] & -self.sets[v]).bit_length() - 1 - REACH
+        return least_of(self.sets[v])
 
     def greatest(self, v):
         """Return the greatest remaining value; there is one."""
-        return self.sets[v].bit_length() - 1 - REACH
+        return greatest_of(self.sets[v])
 
     def size(self, v):
         """Return the number of the remaining values."""
         return f"{self.sets[v]:b}".count("1")
 
+    def is_single(self, v):
+        """Return True if exactly one value remains to the unknown v, to which some value does."""
+        return self.sets[v] & (self.sets[v] - 1) == 0
+
     def contains(self, v, a):
         """Return True if the value a remains to the unknown v."""
-        return self.sets[v] & between(a, a) != 0
+        return self.sets[v] & only(a) != 0
 
     def admits(self, literal):
         """Return True if some remaining value satisfies the literal."""
@@ -84,12 +105,22 @@ class Domains:
         """Return the list of the literals that the fact demands now, or None if it is a conflict."""
         if fact[0] == "row":
             return self.row_demands(fact)
-        live = [literal for literal in fact[1] if self.admits(literal)]
+        live = self.live_literals(fact)
         if not live:
             return None
         if len(live) == 1:
             return live
         return []
+
+    def live_literals(self, clause):
+        """Return the list of the first two live literals of the clause, or of all if there are not so many."""
+        live = []
+        for literal in clause[1]:
+            if self.admits(literal):
+                live.append(literal)
+                if len(live) == 2:
+                    return live
+        return live
 
     def row_demands(self, row):
         """Return for each term the literal that it must satisfy beside the least sum of the others."""

@@ -163,6 +163,10 @@ class Ledger:
         """Return the list of the awake open entries, ascending."""
         return list(self.opened)
 
+    def entries_under(self, under):
+        """Return the list of the awake entries that are under just these, ascending."""
+        return [i for i, above in enumerate(self.above) if above == under and self.present[i] is not None]
+
     def labels_behind(self, i):
         """Return the list of the labels that the entry i and all that it rests on use, ascending."""
         self.check(i)

@@ -8,10 +8,16 @@ from commonground.workers.reach import fails_in
 from commonground.workers.relaxation import rows_of_body
 
 
+def facts_given(body):
+    """Return the list of the facts that the rule given draws from the body."""
+    if body[0] == "any":
+        return [body]
+    return rows_of_body(body)
+
+
 def failing_fact(body, box):
     """Return a fact that the rule given draws from the body and that fails in all of the box, or None."""
-    facts = [body] if body[0] == "any" else rows_of_body(body)
-    for fact in facts:
+    for fact in facts_given(body):
         if fails_in(box, fact):
             return fact
     return None

@@ -5,6 +5,7 @@ from commonground.model.body import unknowns_of
 from commonground.workers.boxes import rest_after
 from commonground.workers.closing import all_sides, failing_fact, look_excludes, sides_against
 from commonground.workers.reach import fails_in
+from commonground.workers.settled import write_goal_row
 
 NEVER = ("any", ())
 
@@ -108,6 +109,4 @@ class Search:
     def finish(self, pen, closed):
         """Write what follows when the whole box is closed by this entry."""
         if not pen.ledger.is_open(closed):
-            row = negation(pen.ledger.fact(self.improving))
-            t = pen.suppose(row)
-            pen.offer((row, "cases", closed, t, self.improving, t))
+            write_goal_row(pen, closed, self.improving)

@@ -1,5 +1,6 @@
 """When a ledger with a standing knows the answer."""
 
+from commonground.facts.fact import negation
 from commonground.ledger.bounding import contradiction_in, entry_for
 
 
@@ -9,3 +10,10 @@ def is_settled(ledger, standing):
         return True
     best = standing.best()
     return best is not None and entry_for(ledger, best[0]) is not None
+
+
+def write_goal_row(pen, closed, improving):
+    """Write that nothing is better than the point held, as the supposition improving led to the entry closed."""
+    row = negation(pen.ledger.fact(improving))
+    t = pen.suppose(row)
+    pen.offer((row, "cases", closed, t, improving, t))

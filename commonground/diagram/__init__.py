@@ -1,0 +1,1 @@
+"""Decision diagrams: tracks of bodies, building, reading and combining."""

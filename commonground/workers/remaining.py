@@ -1,0 +1,61 @@
+"""The values that remain to the unknowns of a model during a descent."""
+
+from commonground.facts.domains import Domains
+
+
+class Remaining:
+    """Remaining values, at first all within the bounds of the model, with which it keeps no connection."""
+
+    def __init__(self, model):
+        self.unknowns = list(range(model.many()))
+        self.domains = Domains(model, self.unknowns)
+
+    def left(self, v):
+        """Return a new list of the remaining values of the unknown v, ascending."""
+        return self.domains.left(v)
+
+    def fix(self, v, a):
+        """Leave only the value a, which remains, to the unknown v."""
+        self.domains.keep((v, "=", a))
+
+    def apply(self, fact):
+        """Apply the fact; return the list of the unknowns that lost values, or None if it is a conflict."""
+        demands = self.domains.demands(fact)
+        if demands is None:
+            return None
+        lost = {}
+        for literal in demands:
+            before = self.domains.sets[literal[0]]
+            self.domains.keep(literal)
+            if self.domains.sets[literal[0]] != before:
+                lost[literal[0]] = True
+        return sorted(lost)
+
+    def single(self):
+        """Return True if every unknown has exactly one remaining value."""
+        return all(self.is_single(v) for v in self.unknowns)
+
+    def is_single(self, v):
+        """Return True if the unknown v has exactly one remaining value."""
+        return self.domains.is_single(v)
+
+    def least(self, v):
+        """Return the least remaining value of the unknown v."""
+        return self.domains.least(v)
+
+    def size(self, v):
+        """Return the number of the remaining values of the unknown v."""
+        return self.domains.size(v)
+
+    def watched(self, fact):
+        """Return unknowns one of which must lose values before the fact, which was applied, can remove something."""
+        if fact[0] == "row":
+            return [v for v, _ in fact[1]]
+        live = self.domains.live_literals(fact)
+        if len(live) < 2:
+            return []
+        return [v for v, _, _ in live]
+
+    def copied(self, unknowns):
+        """Return a dict from the unknowns to the sets of their remaining values, as domains write them."""
+        return {v: self.domains.sets[v] for v in unknowns}
