@@ -169,15 +169,16 @@ def random_model(rng, labels="ab", bounds=((-1, 2), (0, 2), (0, 1))):
 
 
 def random_edit(rng, ledger, labels):
-    """Edit the ledger, whose model has these labels or some of them, and three unknowns."""
+    """Edit the ledger or the workshop, whose model has these labels or some of them, and three unknowns."""
+    model = ledger.model if hasattr(ledger, "model") else ledger.ledger.model
     kind = rng.choice(("put", "withdraw", "move", "move", "aim"))
     if kind == "put":
-        free = [label for label in labels if not ledger.model.has(label)]
+        free = [label for label in labels if not model.has(label)]
         if free:
             ledger.put(rng.choice(free), random_body(rng, 3))
     elif kind == "withdraw":
-        if ledger.model.labels():
-            ledger.withdraw(rng.choice(ledger.model.labels()))
+        if model.labels():
+            ledger.withdraw(rng.choice(model.labels()))
     elif kind == "move":
         low = rng.randint(-2, 1)
         ledger.move(rng.randrange(3), low, low + rng.randint(0, 3))

@@ -57,6 +57,18 @@ FUNCTIONS = {
     ),
     "commonground.workers.cause": ("cause_of(model, label, worths)",),
     "commonground.diagram.build": ("diagram_of(model)", "diagram_from(pairs, points)"),
+    "commonground.diagram.reading": (
+        "belongs(diagram, point)", "count(diagram)", "size(diagram)", "solution_at(diagram, k)",
+        "rank_of(diagram, point)", "points_of(diagram)", "best_of(diagram, goal)", "values_of(diagram, v)",
+    ),
+    "commonground.diagram.algebra": (
+        "meet(first, second)", "join(first, second)", "difference(first, second)", "pinned(diagram, v, a)",
+    ),
+    "commonground.conflict.hitting": ("hitting_sets(sets)", "smallest_sets(sets)"),
+    "commonground.conflict.decide": ("decide(model, labels)",),
+    "commonground.conflict.survey": (
+        "smallest_conflict(model, order)", "survey(model, soft)", "cheapest_repair(model, soft, weights)",
+    ),
 }
 
 CLASSES = {
@@ -92,6 +104,14 @@ CLASSES = {
     "commonground.workers.remaining": {"Remaining(model)": ("left(v)", "fix(v, a)", "apply(fact)", "single()")},
     "commonground.workers.learn": {"Learn()": ("turn(pen)",)},
     "commonground.diagram.track": {"Track(model, body)": ("start()", "after(state, v, a)")},
+    "commonground.workers.chart": {"Chart()": ("turn(pen)",)},
+    "commonground.workshop.workshop": {
+        "Workshop(model)": (
+            "turn(name, *, room=None)", "run(*names, room=None)", "begin_anew(name)", "settle(name)", "offer(step)",
+            "show(point)", "put(label, body)", "withdraw(label)", "move(v, low, high)", "aim(goal)", "best()",
+            "bound()", "has_none()", "at_rest()", "answer()", "certificate()",
+        ),
+    },
 }
 
 ERRORS = (

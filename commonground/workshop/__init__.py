@@ -1,0 +1,1 @@
+"""The workshop: one ledger, one standing best point, and six workers."""
