@@ -189,6 +189,16 @@ class DescentTest(LearnTest):
             self.assertEqual((ledger.step(s), ledger.under(closed)), ((improving, "suppose"), (s,)))
             self.assertIs(ledger.is_open(i), True)
 
+    def test_entries_are_applied_until_nothing_more_is_removed(self):
+        # The unknown with the fewest values is fixed first; then the row and the clause leave 0 and 1 to the next one.
+        terms = ((0, 1), (2, -4))
+        for literal, linear in (((0, "<=", 3), ("row", terms, ">=", 0)), ((0, "!=", 3), ("row", terms, "=", -1))):
+            model = made([(0, 9), (0, 3), (0, 1)], a=("any", (literal, (1, "<=", 1))), r=linear)
+            ledger, standing = held(model, ("max", ((1, 1), (2, 1)), 0))
+            self.assertIs(self.take(Learn(), ledger, standing), True)
+            self.assertEqual(standing.best()[1][1:], (1, 1))
+            self.assertEqual({step[1] for step in ledger}, {"given"})
+
     def test_what_stands_already_is_used(self):
         # By the entries of the narrowing worker alone there is a conflict at once.
         ledger, standing = held(made([(0, 9), (0, 9)], a=("row", ((0, 1), (1, -1)), "<=", -1),

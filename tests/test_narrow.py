@@ -124,6 +124,39 @@ class FixedTest(NarrowTest):
         self.check(made([(1, 20), (1, 21), (900, 901)], t=("times", 0, 1, 2)), ((1, 1, 900), (20, 21, 901)))
         self.check(made([(1, 20), (1, 20), (300, 900)], t=("times", 0, 1, 2)), ((15, 15, 300), (20, 20, 400)))
 
+    def test_wide_bounds(self):
+        # Nobody could look at all choices of values here.
+        wide = [(-1000, 1000)] * 4
+        terms = tuple((v, v + 1) for v in range(4))
+        low, high = -1000, 1000
+        for body, facts, expected in (
+            (("different", (0, 1, 2, 3)), (("=", 5), (">=", 5), ("<=", 5)), ((5, 6, low, low), (5, high, 4, high))),
+            (("when", (0, ">=", 0), terms, "<=", -8990), (("=", 0), ("<=", 500)),
+             ((0, low, low, low), (0, -995, -997, -998))),
+            (("when", (0, "<=", 500), terms, ">=", 9490), (("<=", 500), (">=", 0)),
+             ((490, 995, 997, 998), (500, high, high, high))),
+            (("when", (0, "<=", 500), terms, ">=", 9800), (("<=", 500), (">=", 0)), None),
+            (("when", (0, "<=", 500), terms, ">=", 10001), (), ((501, low, low, low), (high,) * 4)),
+            (("when", (1, "=", -1000), ((0, 1),), "=", 1001), (), ((low, -999, low, low), (high,) * 4)),
+            (("any", ((0, "=", 7), (1, "=", 8), (2, ">=", 9), (3, "!=", 0))), (("<=", 6), (">=", 9), ("<=", 9)),
+             ((low, 9, low, low), (6, high, 9, high))),
+            (("any", ((0, "=", 7), (1, "=", 8), (2, ">=", 9), (3, "<=", 0))), (("<=", 6), (">=", 9), ("<=", 8)),
+             ((low, 9, low, low), (6, high, 8, 0))),
+            (("row", terms, "=", 9999), (), ((999, high, high, high), (999, high, high, high))),
+        ):
+            bodies = {f"f{v}": ("any", ((v, relation, a),)) for v, (relation, a) in enumerate(facts)}
+            ledger, standing = held(made(wide, b=body, **bodies))
+            self.settle_wide(ledger, standing)
+            self.assertEqual(box_of(ledger), expected)
+            self.assertEqual(narrow_box(ledger.model, []), expected)
+
+    def settle_wide(self, ledger, standing):
+        turns = 0
+        while self.take(Narrow(), ledger, standing):
+            turns += 1
+        self.assertLessEqual(turns, self.most_turns(ledger.model))
+        self.assertEqual(box_of(ledger), narrow_box(ledger.model, self.facts(ledger)))
+
     def test_what_is_written(self):
         ledger, _ = self.check(made([(0, 4), (0, 4)], r=("row", ((0, 1), (1, 1)), "<=", 3)), ((0, 0), (3, 3)))
         self.assertEqual(list(ledger), [

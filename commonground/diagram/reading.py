@@ -86,7 +86,8 @@ def points_behind(pairs, layers, n, values):
     else:
         for place, entry in enumerate(layers[v][n]):
             if entry >= 0:
-                yield from points_behind(pairs, layers, entry, (*values, pairs[v][0] + place))
+                longer = (*values, pairs[v][0] + place)
+                yield from points_behind(pairs, layers, entry, longer)
 
 
 def best_of(diagram, goal):

@@ -79,7 +79,10 @@ class Domains:
 
     def admits(self, literal):
         """Return True if some remaining value satisfies the literal."""
-        return self.sets[literal[0]] & satisfying(literal) != 0
+        v, relation, a = literal
+        if relation == "!=":
+            return self.sets[v] not in (0, only(a))
+        return self.sets[v] & satisfying(literal) != 0
 
     def keep(self, literal):
         """Remove the values that do not satisfy the literal."""

@@ -32,10 +32,10 @@ def first_equal(unknowns, worths):
 def kept_unknowns(model, body, worths):
     """Return the list of the unknowns of the body whose values are enough for it to fail."""
     unknowns = unknowns_of(body)
-    choices = [{v: worths[v] for v in unknowns}]
+    choices = [{x: worths[x] for x in unknowns}]
     kept = []
     for v in unknowns:
-        within = range(model.low(v), model.high(v) + 1)
+        within = list(range(model.low(v), model.high(v) + 1))
         wider = []
         if len(choices) * len(within) <= MOST_CHOICES:
             wider = [{**choice, v: a} for choice in choices for a in within]

@@ -22,8 +22,10 @@ class Descent:
         # The entry that is a conflict, with its fact and what remained then.
         self.conflict = None
         self.waiting = {i: True for i in numbers}
-        # For each unknown: the entries that may remove something when it loses values, and the bodies that may fail.
+        # For each unknown: the entries that may remove something when it loses values, those that may when it has one
+        # value left, and the bodies that may fail.
         self.watching = [{} for _ in self.unknowns]
+        self.watching_last = [{} for _ in self.unknowns]
         self.explained = [{} for _ in self.unknowns]
         self.unsure = {}
         for label in self.model.labels():
@@ -67,15 +69,28 @@ class Descent:
     def apply(self, i):
         """Apply the entry i; return False if it is a conflict."""
         fact = self.pen.ledger.fact(i)
+        live = self.remaining.live_pair(fact)
+        if live:
+            self.watch_literals(i, live)
+            return True
         before = self.remaining.copied(unknowns_in(fact))
         lost = self.remaining.apply(fact)
         if lost is None:
             self.conflict = (i, fact, before)
             return False
         self.note(i, fact, before, lost)
-        for v in self.remaining.watched(fact):
-            self.watching[v][i] = True
+        if fact[0] == "row":
+            for v, _ in fact[1]:
+                self.watching[v][i] = True
         return True
+
+    def watch_literals(self, i, literals):
+        """Apply the entry i, a clause, again when one of the two literals may be live no more; before, it is idle."""
+        for v, relation, _ in literals:
+            if relation == "!=":
+                self.watching_last[v][i] = True
+            else:
+                self.watching[v][i] = True
 
     def note(self, number, fact, before, lost):
         """Note that these unknowns lost values, by the fact of the entry, or as one of them was fixed."""
@@ -83,9 +98,12 @@ class Descent:
             after = self.remaining.copied(lost)
             self.trail.note(number, fact, before, {v: before[v] ^ after[v] for v in lost})
         for v in lost:
+            self.unsure.update(self.explained[v])
             self.waiting.update(self.watching[v])
             self.watching[v] = {}
-            self.unsure.update(self.explained[v])
+            if self.remaining.is_single(v):
+                self.waiting.update(self.watching_last[v])
+                self.watching_last[v] = {}
 
     def explain(self):
         """Write an explanation why a body fails, which then waits; return False if none is to be written."""

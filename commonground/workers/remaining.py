@@ -47,14 +47,12 @@ class Remaining:
         """Return the number of the remaining values of the unknown v."""
         return self.domains.size(v)
 
-    def watched(self, fact):
-        """Return unknowns one of which must lose values before the fact, which was applied, can remove something."""
+    def live_pair(self, fact):
+        """Return the list of the first two live literals of a clause that has so many, and of other facts none."""
         if fact[0] == "row":
-            return [v for v, _ in fact[1]]
-        live = self.domains.live_literals(fact)
-        if len(live) < 2:
             return []
-        return [v for v, _, _ in live]
+        live = self.domains.live_literals(fact)
+        return live if len(live) == 2 else []
 
     def copied(self, unknowns):
         """Return a dict from the unknowns to the sets of their remaining values, as domains write them."""
