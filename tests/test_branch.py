@@ -6,25 +6,16 @@ import unittest
 from commonground.errors import Stopped, TooLarge
 from commonground.facts.fact import is_contradiction, negation
 from commonground.facts.judge import accepts
-from commonground.ledger.bounding import contradiction_in, entry_for
+from commonground.ledger.bounding import entry_for
 from commonground.ledger.certificate import cut
-from commonground.ledger.ledger import Ledger
 from commonground.ledger.pen import Pen
-from commonground.ledger.standing import Standing
-from commonground.model.plain import best_plain
 from commonground.workers.branch import Branch
 from commonground.workers.linear import Linear
 from commonground.workers.settled import is_settled
 from tests.makers import (
     NEVER, made, plain_solutions, points_in, random_body, random_edit, random_linear_model, random_model, row,
 )
-
-
-def held(model, goal=("max", (), 0)):
-    """Return a ledger of the model with this goal, and a standing of it."""
-    model.aim(goal)
-    ledger = Ledger(model)
-    return ledger, Standing(ledger)
+from tests.turns import check_answer, held
 
 
 def points_inside(model):
@@ -71,18 +62,7 @@ class BranchTest(unittest.TestCase):
         return turns
 
     def check_answer(self, ledger, standing):
-        """Check that the answer is that of plain looking, and that the judge accepts the cut."""
-        model = ledger.model
-        best = best_plain(model)
-        self.assertEqual(best is None, plain_solutions(model) == [])
-        if best is None:
-            self.assertIsNone(standing.best())
-            certificate = ("none", cut(ledger, contradiction_in(ledger)))
-        else:
-            worth, point = standing.best()
-            self.assertEqual(worth, best[0])
-            certificate = ("best", point, cut(ledger, entry_for(ledger, worth)))
-        self.assertIs(accepts(model, certificate), True)
+        check_answer(self, ledger, standing)
 
     def check_entries(self, ledger, worths=()):
         """Check [79] and [81] of everything that is written, worths being the values of points that were held."""

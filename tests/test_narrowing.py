@@ -8,7 +8,7 @@ from commonground.workers.narrowing import (
     body_consistent, box_of, clause_consistent, is_possible, is_sure, keeps, least_sum, narrow_box, row_consistent,
 )
 from tests import boxes, naive
-from tests.makers import NEVER, clause, made, plain_solutions, points_in, random_body, random_fact, random_model, row
+from tests.makers import NEVER, clause, made, plain_solutions, random_body, random_fact, random_model, row
 
 BOUNDS = [(-1, 2), (0, 2), (0, 1)]
 RELATIONS = ("<=", ">=", "=", "!=")
